@@ -1,0 +1,1 @@
+"""Halfask: a value kept by many, read and written by asking more than half of them."""
