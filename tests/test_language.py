@@ -98,6 +98,43 @@ class FormTest(unittest.TestCase):
             self.assertIn(node.module, modules, place)
             self.assertNotIn("*", [alias.name for alias in node.names], place)
 
+    def test_no_two_files_draw_from_one_another(self):
+        drawn = {}
+        for path in files():
+            tree = ast.parse(path.read_text(encoding="utf-8"))
+            drawn[f"halfask.{path.stem}"] = {part.module for part in tree.body if isinstance(part, ast.ImportFrom)}
+        while drawn:
+            ready = [module for module in drawn if not drawn[module] & set(drawn)]
+            self.assertTrue(ready, drawn)
+            for module in ready:
+                drawn.pop(module)
+
+    def test_names_are_drawn_from_the_file_that_defines_them(self):
+        for place, node in nodes(ast.ImportFrom):
+            tree = ast.parse((PACKAGE / (node.module.split(".")[1] + ".py")).read_text(encoding="utf-8"))
+            defined = [part.name for part in tree.body if isinstance(part, (ast.FunctionDef, ast.ClassDef))]
+            defined += [part.targets[0].id for part in tree.body if isinstance(part, ast.Assign)]
+            for alias in node.names:
+                self.assertIn(alias.name, defined, place)
+
+    def test_walks_are_walked_at_once(self):
+        allowed = []
+        for place, node in nodes((ast.For, ast.comprehension)):
+            allowed.append(ast.dump(node.iter, include_attributes=True))
+        for place, node in nodes(ast.Call):
+            if isinstance(node.func, ast.Name) and node.args:
+                if node.func.id in "list tuple dict sorted sum any all enumerate zip".split() or len(node.args) == 1:
+                    allowed.append(ast.dump(node.args[0], include_attributes=True))
+        for place, node in nodes(ast.Call):
+            called = node.func.id if isinstance(node.func, ast.Name) else getattr(node.func, "attr", "")
+            if called in "zip enumerate reversed range items keys values".split():
+                self.assertIn(ast.dump(node, include_attributes=True), allowed, place)
+
+    def test_keywords(self):
+        for place, node in nodes(ast.Call):
+            if node.keywords:
+                self.assertIn(getattr(node.func, "id", ""), ("sorted", "min", "max", "sum", "enumerate", "zip"), place)
+
     def test_statements(self):
         for place, node in nodes(ast.stmt):
             self.assertIsInstance(node, STATEMENTS, place)
@@ -163,6 +200,35 @@ class NamesTest(unittest.TestCase):
         methods = {part.name for place, node in nodes(ast.ClassDef) for part in node.body if hasattr(part, "name")}
         values = {node.attr for place, node in nodes(ast.Attribute) if isinstance(node.ctx, ast.Store)}
         self.assertEqual(methods & values, set())
+
+    def test_no_local_is_called_like_a_class_or_an_import_of_its_file(self):
+        for name, tree in trees():
+            top = [part.name for part in tree.body if isinstance(part, ast.ClassDef)]
+            for part in tree.body:
+                if isinstance(part, ast.ImportFrom):
+                    top.extend(alias.asname or alias.name for alias in part.names)
+            for node in ast.walk(tree):
+                if isinstance(node, ast.arg):
+                    self.assertNotIn(node.arg, top, f"{name}:{node.lineno}")
+                if isinstance(node, ast.Name) and isinstance(node.ctx, ast.Store):
+                    self.assertNotIn(node.id, top, f"{name}:{node.lineno}")
+
+    def test_names_of_a_files_top_are_bound_once(self):
+        for name, tree in trees():
+            top = []
+            for part in tree.body:
+                if isinstance(part, (ast.FunctionDef, ast.ClassDef)):
+                    top.append(part.name)
+                elif isinstance(part, ast.ImportFrom):
+                    top.extend(alias.asname or alias.name for alias in part.names)
+                elif isinstance(part, ast.Assign):
+                    top.append(part.targets[0].id)
+            self.assertEqual(len(set(top)), len(top), name)
+
+    def test_values_are_given_through_a_local_name(self):
+        for place, node in nodes(ast.Attribute):
+            if isinstance(node.ctx, ast.Store):
+                self.assertIsInstance(node.value, ast.Name, place)
 
     def test_errors_of_pythons_own_are_not_taken_at_large(self):
         for place, node in nodes(ast.ExceptHandler):

@@ -5,15 +5,20 @@ import re
 import unittest
 
 README = pathlib.Path(__file__).resolve().parent.parent / "README.md"
+EXAMPLE = re.compile(r"```python\n(.*?)```\n\nprints\n\n```text\n(.*?)```", re.DOTALL)
 
 
 class ReadmeTest(unittest.TestCase):
-    def test_the_example_does_what_it_says(self):
-        example = re.search(r"```python\n(.*?)```", README.read_text(encoding="utf-8"), re.DOTALL).group(1)
-        printed = io.StringIO()
-        with contextlib.redirect_stdout(printed):
-            exec(example, {})
-        self.assertEqual(printed.getvalue(), "((1, 0), 7)\n")
+    def test_the_examples_do_what_they_say(self):
+        text = README.read_text(encoding="utf-8")
+        examples = EXAMPLE.findall(text)
+        self.assertEqual(len(examples), text.count("```python"))
+        self.assertGreater(len(examples), 0)
+        for example, wanted in examples:
+            printed = io.StringIO()
+            with contextlib.redirect_stdout(printed):
+                exec(example, {})
+            self.assertEqual(printed.getvalue(), wanted)
 
 
 if __name__ == "__main__":
